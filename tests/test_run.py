@@ -1,13 +1,10 @@
 """Promise 1, tk_run, and the refusals ahead of it."""
 
-import contextlib
-import io
 import itertools
 import unittest
 
+from tests.helper import MOST, EveryCall, free_rules
 from tokenways.checks import tk_run
-
-MOST = 4294967295
 
 # One place: rule 0 takes 2 and puts 1, rule 1 takes 0 and puts 3.
 ONE_PLACE = [2, 1, 0, 3]
@@ -19,24 +16,6 @@ THREE_PLACES = [
     0, 2, 0, 0, 0, 1,
     0, 0, 1, 5, 0, 1,
 ]
-
-
-def free_rules(n, k):
-    """k rules over n places that can always be done: rule r puts r on place 0."""
-    rules = []
-    for r in range(k):
-        rules += [0] * n + [r] + [0] * (n - 1)
-    return rules
-
-
-class Untouchable(list):
-    """A list that can't be changed, not for a while either."""
-
-    def refuse(self, *args, **kwargs):
-        raise AssertionError("what is handed in was changed")
-
-    __setitem__ = __delitem__ = __iadd__ = __imul__ = refuse
-    append = extend = insert = pop = remove = clear = sort = reverse = refuse
 
 
 class OrdinaryRows(unittest.TestCase):
@@ -198,8 +177,9 @@ class OutOfRange(unittest.TestCase):
         self.assertEqual(tk_run([0], [1, 0], [0] * 1048577), [-22])
 
 
-class HowItIsCalled(unittest.TestCase):
-    CALLS = (
+class HowItIsCalled(EveryCall, unittest.TestCase):
+    answer = staticmethod(tk_run)
+    calls = (
         ([2, 0, 0], THREE_PLACES, [0, 0, 1, 2]),
         ([2, 0, 0], THREE_PLACES, []),
         ([2, 0, 0], THREE_PLACES, [0, 2]),
@@ -207,47 +187,14 @@ class HowItIsCalled(unittest.TestCase):
         ([], [1, 2], [0]),
     )
 
-    def test_what_is_handed_in_is_not_changed(self):
-        for start, rules, row in self.CALLS:
-            given = (Untouchable(start), Untouchable(rules), Untouchable(row))
-            tk_run(*given)
-            self.assertEqual(given, (start, rules, row))
-
-    def test_twice_alike(self):
-        for start, rules, row in self.CALLS:
-            first = tk_run(start, rules, row)
-            kept = list(first)
-            # What the caller does with an answer must not reach the next one.
-            first.append(99)
-            first[0] = 99
-            self.assertEqual(tk_run(start, rules, row), kept)
-
-    def test_calls_between_do_not_matter(self):
-        wanted = [tk_run(*call) for call in self.CALLS]
-        backwards = [tk_run(*call) for call in reversed(self.CALLS)]
-        self.assertEqual(wanted, backwards[::-1])
-
     def test_answer_is_a_new_list(self):
         start = [1, 2]
         answer = tk_run(start, [0, 0, 0, 0], [])
         answer[1] = 50
         self.assertEqual(start, [1, 2])
 
-    def test_kinds(self):
-        for call in self.CALLS:
-            answer = tk_run(*call)
-            self.assertIs(type(answer), list)
-            self.assertEqual({type(number) for number in answer}, {int})
-
     def test_names_of_arguments(self):
         self.assertEqual(tk_run(start=[1], rules=[1, 4], row=[0]), [0, 4])
-
-    def test_prints_nothing(self):
-        said = io.StringIO()
-        with contextlib.redirect_stdout(said), contextlib.redirect_stderr(said):
-            for call in self.CALLS:
-                tk_run(*call)
-        self.assertEqual(said.getvalue(), "")
 
 
 if __name__ == "__main__":

@@ -75,3 +75,21 @@ def tk_run(start, rules, row):
     if tokens is None:
         return [NOT_DOABLE]
     return [0] + tokens
+
+
+def lies_there(tokens, goal):
+    """Whether on each place lie at least as many tokens as goal says."""
+    for place in range(len(goal)):
+        if tokens[place] < goal[place]:
+            return False
+    return True
+
+
+def tk_can(start, rules, goal, row):
+    """[1] where row can be done from start on and then at least goal lies there, else [0] or a refusal."""
+    if not net_is_taken(start, rules) or not row_is_taken(row, count_rules(start, rules)):
+        return [OUT_OF_RANGE]
+    tokens = after_row(start, rules, row)
+    if tokens is None or not lies_there(tokens, goal):
+        return [0]
+    return [1]

@@ -1,0 +1,94 @@
+"""What the tests of several functions share."""
+
+import contextlib
+import copy
+import io
+
+MOST = 4294967295
+
+
+def free_rules(n, k):
+    """k rules over n places that can always be done: rule r puts r on place 0."""
+    rules = []
+    for r in range(k):
+        rules += [0] * n + [r] + [0] * (n - 1)
+    return rules
+
+
+class Untouchable(list):
+    """A list that can't be changed, not for a while either."""
+
+    def refuse(self, *args, **kwargs):
+        raise AssertionError("what is handed in was changed")
+
+    __setitem__ = __delitem__ = __iadd__ = __imul__ = refuse
+    append = extend = insert = pop = remove = clear = sort = reverse = refuse
+
+
+def guarded(value):
+    """The value as it is handed in where it must not be changed."""
+    return Untouchable(value) if isinstance(value, list) else value
+
+
+class EveryCall:
+    """What holds of each function, however it answers: give answer, the function, and calls, its arguments."""
+
+    def test_what_is_handed_in_is_not_changed(self):
+        for call in self.calls:
+            given = tuple(guarded(value) for value in call)
+            kept = copy.deepcopy(call)
+            self.answer(*given)
+            self.assertEqual(given, kept)
+
+    def test_twice_alike(self):
+        for call in self.calls:
+            first = self.answer(*call)
+            kept = list(first)
+            # What the caller does with an answer must not reach the next one.
+            first.append(99)
+            first[0] = 99
+            self.assertEqual(self.answer(*call), kept)
+
+    def test_calls_between_do_not_matter(self):
+        wanted = [self.answer(*call) for call in self.calls]
+        backwards = [self.answer(*call) for call in reversed(self.calls)]
+        self.assertEqual(wanted, backwards[::-1])
+
+    def test_kinds(self):
+        for call in self.calls:
+            answer = self.answer(*call)
+            self.assertIs(type(answer), list)
+            self.assertEqual({type(number) for number in answer}, {int})
+
+    def test_prints_nothing(self):
+        said = io.StringIO()
+        with contextlib.redirect_stdout(said), contextlib.redirect_stderr(said):
+            for call in self.calls:
+                self.answer(*call)
+        self.assertEqual(said.getvalue(), "")
+
+
+class NetEdges:
+    """Which nets are refused. Give ask(start, rules), a call whose other inputs are fine for n of 1 or more."""
+
+    def test_no_places(self):
+        for rules in ([], [1], [0, 0], [1, 2, 3, 4]):
+            self.assertEqual(self.ask([], rules), [-22])
+
+    def test_sixteen_and_seventeen_places(self):
+        for n in (1, 2, 15, 16):
+            for k in (1, 2, 64):
+                self.assertIn(self.ask([0] * n, free_rules(n, k)), ([0], [1]))
+        for n in (17, 18, 20):
+            for k in (0, 1, 2, 64):
+                self.assertEqual(self.ask([0] * n, free_rules(n, k)), [-22])
+
+    def test_no_rules(self):
+        for n in (1, 2, 16):
+            self.assertEqual(self.ask([0] * n, []), [-22])
+
+    def test_sixty_four_and_sixty_five_rules(self):
+        for n in (1, 2, 16):
+            self.assertIn(self.ask([0] * n, free_rules(n, 64)), ([0], [1]))
+            self.assertEqual(self.ask([0] * n, free_rules(n, 65)), [-22])
+            self.assertEqual(self.ask([0] * n, free_rules(n, 66)), [-22])
