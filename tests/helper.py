@@ -15,6 +15,34 @@ def free_rules(n, k):
     return rules
 
 
+def pieces(numbers, n):
+    """A flat list, cut into lists of n numbers each."""
+    return [numbers[first:first + n] for first in range(0, len(numbers), n)]
+
+
+def holds_by_words(start, rules, bounds):
+    """Whether the list of bounds holds, as the document's words say it; no bound is None here."""
+    n = len(start)
+    listed = [[None if one == MOST else one for one in each] for each in pieces(bounds, n)]
+
+    def within_some(amounts):
+        return any(
+            all(one is None or (amount is not None and amount <= one) for amount, one in zip(amounts, each))
+            for each in listed
+        )
+
+    if not within_some(start):
+        return False
+    for each in listed:
+        for rule in pieces(rules, 2 * n):
+            takes, puts = rule[:n], rule[n:]
+            if all(one is None or taken <= one for taken, one in zip(takes, each)):
+                made = [None if one is None else one - taken + put for one, taken, put in zip(each, takes, puts)]
+                if not within_some(made):
+                    return False
+    return True
+
+
 class Untouchable(list):
     """A list that can't be changed, not for a while either."""
 

@@ -7,6 +7,11 @@ which has for each rule the n numbers that it takes and then the n that it puts.
 MOST_PLACES = 16
 MOST_RULES = 64
 MOST_IN_ROW = 1048576
+MOST_IN_LIST = 65536
+
+# In the stead of a bound this says that there is none. It is the greatest number
+# handed in, so whatever is handed in is at most this and never more than this.
+NO_BOUND = 4294967295
 
 OUT_OF_RANGE = -22
 NOT_DOABLE = -2
@@ -93,3 +98,106 @@ def tk_can(start, rules, goal, row):
     if tokens is None or not lies_there(tokens, goal):
         return [0]
     return [1]
+
+
+def split_list(bounds, n):
+    """The flat list of bounds, split into bounds of n numbers each."""
+    return [bounds[first:first + n] for first in range(0, len(bounds), n)]
+
+
+def list_is_taken(bounds, n):
+    """Whether the flat list has not too many bounds of n numbers each."""
+    return len(bounds) // n <= MOST_IN_LIST
+
+
+def bound_after_rule(bound, taken, put):
+    """What a rule that takes and puts so many on a place makes of the bound there."""
+    if bound == NO_BOUND:
+        return NO_BOUND
+    # A number as great as this lies within no bound alone, just as no bound does.
+    return min(bound - taken + put, NO_BOUND)
+
+
+def bounds_after_rule(bounds, rules, rule):
+    """What the rule, which can be done from tokens within the bounds, makes of them."""
+    n = len(bounds)
+    takes_from = 2 * n * rule
+    puts_from = takes_from + n
+    return [
+        bound_after_rule(bounds[place], rules[takes_from + place], rules[puts_from + place])
+        for place in range(n)
+    ]
+
+
+def room_at(listed, place):
+    """How much the listed bounds leave room for at a place: a pair of lists.
+
+    The first has the different bounds there, from great to small. The second has
+    at i, as bits, which of the listed are at least as great there as one of the
+    first i of these: bit b stands for listed[b].
+    """
+    heights = []
+    roomy = [0]
+    for number in sorted(range(len(listed)), key=lambda each: listed[each][place], reverse=True):
+        height = listed[number][place]
+        if len(heights) == 0 or heights[-1] != height:
+            heights.append(height)
+            roomy.append(roomy[-1])
+        roomy[-1] = roomy[-1] | (1 << number)
+    return (heights, roomy)
+
+
+def which_have_room(room, amount):
+    """As bits, which of the listed bounds are at least amount at the place that room is of."""
+    heights = room[0]
+    low = 0
+    high = len(heights)
+    while low < high:
+        middle = (low + high) // 2
+        if heights[middle] >= amount:
+            low = middle + 1
+        else:
+            high = middle
+    return room[1][low]
+
+
+def lies_within_some(amounts, rooms):
+    """Whether on no place lies more than one and the same of the listed bounds lets lie there."""
+    roomy = which_have_room(rooms[0], amounts[0])
+    for place in range(1, len(amounts)):
+        roomy = roomy & which_have_room(rooms[place], amounts[place])
+    return roomy != 0
+
+
+def rules_stay_within(bounds, rules, rooms):
+    """Whether what each rule that can be done makes of the bounds lies within some of the listed."""
+    for rule in range(count_rules(bounds, rules)):
+        # Tokens within the bounds may lie just at them, so a rule is tried from there.
+        if can_be_done(bounds, rules, rule):
+            if not lies_within_some(bounds_after_rule(bounds, rules, rule), rooms):
+                return False
+    return True
+
+
+def list_holds(start, rules, listed):
+    """Whether start lies within some of the listed bounds, and no rule leads out of them."""
+    # To try each of the listed against each other would take hours where there are many.
+    rooms = [room_at(listed, place) for place in range(len(start))]
+    if not lies_within_some(start, rooms):
+        return False
+    for bounds in listed:
+        if not rules_stay_within(bounds, rules, rooms):
+            return False
+    return True
+
+
+def tk_cannot(start, rules, goal, bounds):
+    """[1] where the list of bounds holds and goal is beyond each of them, else [0] or a refusal."""
+    if not net_is_taken(start, rules) or not list_is_taken(bounds, len(start)):
+        return [OUT_OF_RANGE]
+    listed = split_list(bounds, len(start))
+    for each in listed:
+        # Goal within one of the bounds: the list leaves open that it comes about.
+        if lies_there(each, goal):
+            return [0]
+    return [1] if list_holds(start, rules, listed) else [0]
