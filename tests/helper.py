@@ -3,6 +3,7 @@
 import contextlib
 import copy
 import io
+import math
 
 MOST = 4294967295
 
@@ -41,6 +42,28 @@ def holds_by_words(start, rules, bounds):
                 if not within_some(made):
                     return False
     return True
+
+
+def way_by_words(start, rules, way):
+    """What lies at the end of way, as the document's words say it, or None; ever more is infinity here."""
+    n = len(start)
+    gone = [start]
+    for entry in way:
+        now = gone[-1]
+        if entry < 64:
+            takes, puts = rules[2 * n * entry:][:n], rules[2 * n * entry + n:][:n]
+            if any(there < taken for there, taken in zip(now, takes)):
+                return None
+            # Whatever is added to infinity, it stays infinity.
+            gone.append([there - taken + put for there, taken, put in zip(now, takes, puts)])
+        elif entry - 64 > len(gone) - 1:
+            return None
+        else:
+            then = gone[entry - 64]
+            if any(there < lay for there, lay in zip(now, then)):
+                return None
+            gone.append([math.inf if there > lay else there for there, lay in zip(now, then)])
+    return gone[-1]
 
 
 class Untouchable(list):

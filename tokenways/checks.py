@@ -8,10 +8,18 @@ MOST_PLACES = 16
 MOST_RULES = 64
 MOST_IN_ROW = 1048576
 MOST_IN_LIST = 65536
+MOST_IN_WAY = 65536
+
+# The entries of a way from this one on look back; those below are rules.
+FIRST_LOOK_BACK = 64
 
 # In the stead of a bound this says that there is none. It is the greatest number
 # handed in, so whatever is handed in is at most this and never more than this.
 NO_BOUND = 4294967295
+
+# Ever more tokens, as a number beyond all that may lie there along a way: start
+# and each of at most 65536 rules bring fewer than 2^32, which is below 2^49 in all.
+EVER_MORE = 18446744073709551616
 
 OUT_OF_RANGE = -22
 NOT_DOABLE = -2
@@ -201,3 +209,62 @@ def tk_cannot(start, rules, goal, bounds):
         if lies_there(each, goal):
             return [0]
     return [1] if list_holds(start, rules, listed) else [0]
+
+
+def way_is_taken(way, k):
+    """Whether way is not too long and each of its entries below 64 is one of k rules."""
+    if len(way) > MOST_IN_WAY:
+        return False
+    for entry in way:
+        if entry >= k and entry < FIRST_LOOK_BACK:
+            return False
+    return True
+
+
+def after_rule_of_way(tokens, rules, rule):
+    """What lies on each place once the rule is done: ever more stays so."""
+    done = after_rule(tokens, rules, rule)
+    return [EVER_MORE if tokens[place] == EVER_MORE else done[place] for place in range(len(tokens))]
+
+
+def after_look_back(tokens, before):
+    """What lies on each place once it's seen that nowhere less lies than before."""
+    return [EVER_MORE if tokens[place] > before[place] else tokens[place] for place in range(len(tokens))]
+
+
+def after_entry(gone, rules, entry):
+    """What lies on each place after one more entry of a way, or None where it can't be gone.
+
+    gone has at j what lay after the first j entries.
+    """
+    tokens = gone[-1]
+    if entry < FIRST_LOOK_BACK:
+        return after_rule_of_way(tokens, rules, entry) if can_be_done(tokens, rules, entry) else None
+    j = entry - FIRST_LOOK_BACK
+    # gone has one more than there are entries before this one.
+    if j >= len(gone) or not lies_there(tokens, gone[j]):
+        return None
+    return after_look_back(tokens, gone[j])
+
+
+def after_way(start, rules, way):
+    """What lies on each place at the end of way, or None where it can't be gone so far."""
+    gone = [list(start)]
+    for entry in way:
+        tokens = after_entry(gone, rules, entry)
+        if tokens is None:
+            return None
+        gone.append(tokens)
+    return gone[-1]
+
+
+def tk_grows(p, start, rules, way):
+    """[1] where way can be gone to its end and then ever more lies on place p, else [0] or a refusal."""
+    if not net_is_taken(start, rules) or p >= len(start):
+        return [OUT_OF_RANGE]
+    if not way_is_taken(way, count_rules(start, rules)):
+        return [OUT_OF_RANGE]
+    tokens = after_way(start, rules, way)
+    if tokens is None or tokens[p] != EVER_MORE:
+        return [0]
+    return [1]
