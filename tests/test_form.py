@@ -17,6 +17,15 @@ UNSAID = re.compile(
     r"|namedtuple|NamedTuple|TypedDict|TYPE_CHECKING|abstractmethod)\b|dataclass|overload|contextmanager"
 )
 
+# The kinds of pieces that LANGUAGE.md lets a file be made of, as far as they are needed here.
+PIECES = set(
+    "Module FunctionDef arguments arg Expr Assign Name Load Store Constant UnaryOp USub Not BinOp Add Sub Mult"
+    " FloorDiv LShift BitOr BitAnd BoolOp And Or Compare Eq NotEq Lt LtE Gt GtE Is IsNot If For While Return Call"
+    " keyword Lambda IfExp Subscript Slice Attribute List Tuple ListComp comprehension".split()
+)
+
+METHODS = {"append"}
+
 
 def sources():
     return [(path, path.read_text(encoding="utf-8")) for path in sorted(PACKAGE.glob("*.py"))]
@@ -40,6 +49,13 @@ class Form(unittest.TestCase):
             for node in ast.walk(ast.parse(text)):
                 if isinstance(node, ast.FunctionDef):
                     self.assertLessEqual(node.end_lineno - node.lineno + 1, 40, node.name)
+
+    def test_pieces_and_methods(self):
+        for path, text in sources():
+            for node in ast.walk(ast.parse(text)):
+                self.assertIn(type(node).__name__, PIECES, (path.name, getattr(node, "lineno", None)))
+                if isinstance(node, ast.Attribute):
+                    self.assertIn(node.attr, METHODS, (path.name, node.lineno))
 
     def test_nothing_is_imported(self):
         for path, text in sources():

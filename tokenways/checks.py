@@ -268,3 +268,14 @@ def tk_grows(p, start, rules, way):
     if tokens is None or tokens[p] != EVER_MORE:
         return [0]
     return [1]
+
+
+def tk_bounded(p, start, rules, bounds):
+    """[1] where the list of bounds holds and each of them has one at place p, else [0] or a refusal."""
+    if not net_is_taken(start, rules) or p >= len(start) or not list_is_taken(bounds, len(start)):
+        return [OUT_OF_RANGE]
+    listed = split_list(bounds, len(start))
+    for each in listed:
+        if each[p] == NO_BOUND:
+            return [0]
+    return [1] if list_holds(start, rules, listed) else [0]
